@@ -1,0 +1,1 @@
+"""Surelyorders: comparisons of texts, for all texts."""
