@@ -9,15 +9,7 @@ import unittest
 from surelyorders import comps
 from surelyorders.bounds import MAX_LETTERS, MAX_STATES
 from surelyorders.comps import columns, comp_error, tells
-
-PLAIN = (1, ((0, 1, 2), (1, 1, 1), (2, 2, 2)), (0, 1, -1))
-
-# Written out by hand in the document's order.
-COLUMNS = {
-    1: ("aa", "a.", ".a"),
-    2: ("aa", "ab", "a.", "ba", "bb", "b.", ".a", ".b"),
-    3: ("aa", "ab", "ac", "a.", "ba", "bb", "bc", "b.", "ca", "cb", "cc", "c.", ".a", ".b", ".c"),
-}
+from tests.plain import COLUMNS, PLAIN, ExactCase, random_comp, told, words
 
 
 def made(letters, states):
@@ -28,33 +20,6 @@ def made(letters, states):
         for state in range(states)
     ]
     return (letters, tuple(rows), tuple([state % 3 - 1 for state in range(states)]))
-
-
-def random_comp(chance, letters, states):
-    width = len(COLUMNS[letters])
-    rows = [tuple([chance.randrange(states) for _ in range(width)]) for _ in range(states)]
-    return (letters, tuple(rows), tuple([chance.choice((-1, 0, 1)) for _ in range(states)]))
-
-
-def told(comp, one, other):
-    """What the document says that a comparison tells, place by place."""
-    letters, rows, verdicts = comp
-    state, place = 0, 0
-    while place < len(one) or place < len(other):
-        first = one[place] if place < len(one) else "."
-        second = other[place] if place < len(other) else "."
-        state = rows[state][COLUMNS[letters].index(first + second)]
-        place += 1
-    return verdicts[state]
-
-
-def words(letters, longest):
-    signs = "abc"[:letters]
-    return [
-        "".join(word)
-        for length in range(longest + 1)
-        for word in itertools.product(signs, repeat=length)
-    ]
 
 
 def nested(levels, kind):
@@ -94,17 +59,7 @@ def not_tuples():
     ]
 
 
-class CompsCase(unittest.TestCase):
-    def assert_exactly(self, result, expected):
-        """Equal, and of the same kinds throughout: no True for 1 and no list for a tuple."""
-        self.assertEqual(repr(result), repr(expected))
-        self.assertIs(type(result), type(expected))
-        if isinstance(expected, tuple):
-            for part, other in zip(result, expected):
-                self.assertIs(type(part), type(other))
-
-
-class ExampleTest(CompsCase):
+class ExampleTest(ExactCase):
     def test_example_of_section_1(self):
         results = [
             comp_error(PLAIN),
@@ -117,7 +72,7 @@ class ExampleTest(CompsCase):
         self.assertEqual(repr(results), "[None, (1, 'row'), ('aa', 'a.', '.a'), 1, -1, 0]")
 
 
-class InterfaceTest(CompsCase):
+class InterfaceTest(ExactCase):
     def test_names_and_arguments(self):
         for function, names in (
             (comp_error, ["value"]), (columns, ["letters"]), (tells, ["comp", "one", "other"]),
@@ -135,7 +90,7 @@ class InterfaceTest(CompsCase):
         self.assert_exactly(tells(PLAIN, "a", other="aa"), -1)
 
 
-class CompErrorTest(CompsCase):
+class CompErrorTest(ExactCase):
     def test_comparisons(self):
         for letters in range(1, MAX_LETTERS + 1):
             for states in (1, 2, 3, 8, MAX_STATES - 1, MAX_STATES, MAX_STATES + 1, 1600):
@@ -305,7 +260,7 @@ class CompErrorTest(CompsCase):
             self.assert_exactly(comp_error(value), expected)
 
 
-class ColumnsTest(CompsCase):
+class ColumnsTest(ExactCase):
     def test_each_number_of_letters(self):
         for letters, expected in COLUMNS.items():
             self.assert_exactly(columns(letters), expected)
@@ -315,7 +270,7 @@ class ColumnsTest(CompsCase):
             self.assert_exactly(columns(letters), COLUMNS[letters])
 
 
-class TellsTest(CompsCase):
+class TellsTest(ExactCase):
     def test_both_words_empty(self):
         for letters in (1, 2, 3):
             for verdict in (-1, 0, 1):
