@@ -4,7 +4,7 @@ A comparison is a tuple (letters, rows, verdicts): how many letters there are, t
 each state with the next state for each column, and the verdict of each state.
 """
 
-from surelyorders.bounds import MAX_LETTERS
+from surelyorders.bounds import MAX_LENGTH, MAX_LETTERS
 
 LETTERS = "abc"
 END = "."
@@ -49,6 +49,13 @@ def tells(comp, one, other):
 def column_places(letters):
     """Return a dict that gives for each column where its item stands in a row."""
     return {column: place for place, column in enumerate(columns(letters))}
+
+
+def is_word(value, letters):
+    """Tell whether the value is a word of so many letters that is not too long to hand over."""
+    if not isinstance(value, str) or len(value) > MAX_LENGTH:
+        return False
+    return all([sign in LETTERS[:letters] for sign in value])
 
 
 def first_wrong_row(rows, width):

@@ -25,6 +25,16 @@ def chain_fault(comp):
     return first_words(chain_walk(comp), is_broken_chain)
 
 
+def first_fault(comp):
+    """Return the first of self_fault, turn_fault and chain_fault that is not None, or None."""
+    fault = self_fault(comp)
+    if fault is None:
+        fault = turn_fault(comp)
+    if fault is None:
+        fault = chain_fault(comp)
+    return fault
+
+
 def is_order(comp):
     """Tell whether comp is an order."""
     for walk, wanted in order_walks(comp):

@@ -43,10 +43,17 @@ def then(one, other):
     """Return the comparison that tells what one tells, and where that is 0 what other tells."""
     if one[0] != other[0]:
         raise Unlike()
+    return then_within(one, other, len(one[1]) * len(other[1]))
+
+
+def then_within(one, other, most):
+    """Return the comparison of then, or None if it has more states than most."""
     pairs = [(0, 0)]
     numbers = {(0, 0): 0}
     rows = []
     while len(rows) < len(pairs):
+        if len(pairs) > most:
+            return None
         first, second = pairs[len(rows)]
         row = []
         for pair in zip(one[1][first], other[1][second]):

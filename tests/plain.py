@@ -14,6 +14,14 @@ COLUMNS = {
 PLAIN = (1, ((0, 1, 2), (1, 1, 1), (2, 2, 2)), (0, 1, -1))
 NEVER = (1, ((0, 0, 0),), (0,))
 
+# Comparisons of one letter whose first broken rule is the first, the second, the third one. The
+# last one tells words the same whose lengths differ by 1 at most, but no others.
+NO_SELF = (1, ((0, 0, 0),), (1,))
+NO_TURN = (1, ((0, 1, 1), (1, 1, 1)), (0, 1))
+NO_CHAIN = (
+    1, ((0, 1, 3), (1, 2, 1), (2, 2, 2), (3, 3, 4), (4, 4, 4)), (0, 0, 1, 0, -1),
+)
+
 
 class ExactCase(unittest.TestCase):
     def assert_exactly(self, result, expected):
@@ -35,6 +43,14 @@ class ExactCase(unittest.TestCase):
         self.assertEqual(repr(arguments), repr(kept))
         self.assert_exactly(function(*kept), result)
         return result
+
+
+def outcome(function, *arguments, **named):
+    """What a call comes to: ("returned", its result), or the error's class and its fields."""
+    try:
+        return ("returned", function(*arguments, **named))
+    except Exception as error:
+        return (type(error).__name__, vars(error))
 
 
 def told(comp, one, other):
@@ -103,6 +119,22 @@ def behind(one, other):
     ]
     verdicts = [verdict or other_verdict for verdict in one[2] for other_verdict in other[2]]
     return (one[0], tuple(rows), tuple(verdicts))
+
+
+def pairs_come_to(one, other):
+    """The pairs of states in the order in which columns come to them, and their rows."""
+    pairs, rows = [(0, 0)], []
+    for number in itertools.count():
+        if number == len(pairs):
+            return pairs, tuple(rows)
+        first, second = pairs[number]
+        row = []
+        for place in range(len(COLUMNS[one[0]])):
+            pair = (one[1][first][place], other[1][second][place])
+            if pair not in pairs:
+                pairs.append(pair)
+            row.append(pairs.index(pair))
+        rows.append(tuple(row))
 
 
 def random_order(chance, letters, depth=2):

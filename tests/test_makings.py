@@ -11,24 +11,9 @@ from surelyorders.errors import OrderError, Unlike
 from surelyorders.faults import chain_fault, is_order, self_fault, turn_fault
 from surelyorders.makings import by_length, by_ranks, folded, then, turned
 from tests.plain import (
-    COLUMNS, NEVER, PLAIN, ExactCase, random_comp, random_order, random_word, ranked, told, words,
+    COLUMNS, NEVER, PLAIN, ExactCase, pairs_come_to, random_comp, random_order, random_word, ranked,
+    told, words,
 )
-
-
-def pairs_come_to(one, other):
-    """The pairs of states in the order in which columns come to them, and their rows."""
-    pairs, rows = [(0, 0)], []
-    for number in itertools.count():
-        if number == len(pairs):
-            return pairs, tuple(rows)
-        first, second = pairs[number]
-        row = []
-        for place in range(len(COLUMNS[one[0]])):
-            pair = (one[1][first][place], other[1][second][place])
-            if pair not in pairs:
-                pairs.append(pair)
-            row.append(pairs.index(pair))
-        rows.append(tuple(row))
 
 
 class ExampleTest(ExactCase):
