@@ -73,8 +73,7 @@ class Bench:
 
     def __getitem__(self, at):
         """Return the verdict of the state."""
-        require_state(self.comp, at)
-        return self.comp[2][at]
+        return self.verdict_of(at)
 
     def __iter__(self):
         raise TypeError("a bench is not iterated over")
@@ -153,10 +152,19 @@ class Bench:
         return len(self.standing)
 
     def __str__(self):
-        return f"{self.comp[0]} letters, {len(self.comp[1])} states, {len(self.standing)} edits"
+        return str(self.summary())
 
     def __eq__(self, other):
         return isinstance(other, Bench) and self.comp == other.comp and self.ORDERED == other.ORDERED
+
+    def verdict_of(self, state):
+        """Return the verdict of the state."""
+        require_state(self.comp, state)
+        return self.comp[2][state]
+
+    def summary(self):
+        """Return the text of the numbers of letters, states and edits."""
+        return f"{self.comp[0]} letters, {len(self.comp[1])} states, {len(self.standing)} edits"
 
     def edit(self, item):
         """Do the edit that the item tells; return the new version."""
@@ -227,3 +235,89 @@ class OrderBench(Bench):
     """A bench whose comparison is an order in each version."""
 
     ORDERED = True
+
+    # All that callers use stands here too, also where it does just what it does for a Bench, so
+    # that the class shows by itself what can be asked of it. The operators share methods with
+    # those of Bench, since super calls plain methods alone.
+
+    def __init__(self, comp):
+        Bench.__init__(self, comp)
+
+    def link(self, state, column, target):
+        """Let the state's item for the column be target; return the new version."""
+        return super().link(state, column, target)
+
+    def say(self, state, verdict):
+        """Give the state the verdict; return the new version."""
+        return super().say(state, verdict)
+
+    def grow(self, state):
+        """Put a state like this one behind the others; return the new version."""
+        return super().grow(state)
+
+    def drop(self, state):
+        """Take the state away; return the new version."""
+        return super().drop(state)
+
+    def turn(self):
+        """Give each state the contrary verdict; return the new version."""
+        return super().turn()
+
+    def __iadd__(self, other):
+        """Put the comparison behind the present one."""
+        self.edit(("behind", other))
+        return self
+
+    def __isub__(self, other):
+        """Put the comparison ahead of the present one."""
+        self.edit(("ahead", other))
+        return self
+
+    def __setitem__(self, at, worth):
+        """Give the state the verdict."""
+        self.say(at, worth)
+
+    def __getitem__(self, at):
+        """Return the verdict of the state."""
+        return self.verdict_of(at)
+
+    def undo(self):
+        """Remove the last edit that stands; return the new version."""
+        return super().undo()
+
+    def redo(self):
+        """Put the edit that was removed last in its place again; return the new version."""
+        return super().redo()
+
+    def attempt(self, edits, *, watch=None):
+        """Do the items until the watch ends them, as one edit; return how many were done."""
+        return super().attempt(edits, watch=watch)
+
+    def first_fault(self):
+        """Return the first word, pair or triple that shows that comp is no order, or None."""
+        return super().first_fault()
+
+    def tells(self, one, other):
+        """Return -1, 0 or 1: one is less than other, the same, or greater."""
+        return super().tells(one, other)
+
+    def sorted_by(self, words):
+        """Return the words sorted, those told same as they stand."""
+        return super().sorted_by(words)
+
+    def comp_at(self, *, version=None):
+        """Return the comparison now, or behind so many of the edits that stand."""
+        return super().comp_at(version=version)
+
+    def edits(self):
+        """Return the items of the edits that stand."""
+        return super().edits()
+
+    def __len__(self):
+        return len(self.standing)
+
+    def __str__(self):
+        return str(self.summary())
+
+    def __eq__(self, other):
+        return isinstance(other, OrderBench) and self.comp == other.comp

@@ -75,12 +75,13 @@ class InterfaceTest(ExactCase):
     OPERATORS = ("__getitem__", "__setitem__", "__iadd__", "__isub__", "__len__", "__str__", "__eq__")
 
     def test_methods_are_defined_in_the_class(self):
-        for name, names in self.METHODS.items():
-            self.assertEqual(list(inspect.signature(vars(Bench)[name]).parameters), ["self"] + names)
-        for name in self.OPERATORS:
-            self.assertIn(name, vars(Bench))
-        self.assertEqual(list(inspect.signature(Bench).parameters), ["comp"])
-        self.assertEqual(list(inspect.signature(OrderBench).parameters), ["comp"])
+        for kind in (Bench, OrderBench):
+            for name, names in self.METHODS.items():
+                self.assertEqual(list(inspect.signature(vars(kind)[name]).parameters), ["self"] + names)
+            for name in (*self.METHODS, *self.OPERATORS, "__init__"):
+                # In its own body: not inherited, and not a name for what another class defines.
+                self.assertEqual(vars(kind)[name].__qualname__, f"{kind.__name__}.{name}")
+            self.assertEqual(list(inspect.signature(kind).parameters), ["comp"])
 
     def test_classes_are_defined_in_the_file(self):
         self.assertEqual(Bench.__module__, "surelyorders.benches")
@@ -90,11 +91,11 @@ class InterfaceTest(ExactCase):
         self.assertFalse(issubclass(Bench, OrderBench))
 
     def test_keywords_alone(self):
-        bench = Bench(PLAIN)
-        for name, parameter in (("attempt", "watch"), ("comp_at", "version")):
-            found = inspect.signature(getattr(bench, name)).parameters[parameter]
-            self.assertIs(found.kind, inspect.Parameter.KEYWORD_ONLY)
-            self.assertIsNone(found.default)
+        for bench in (Bench(PLAIN), OrderBench(PLAIN)):
+            for name, parameter in (("attempt", "watch"), ("comp_at", "version")):
+                found = inspect.signature(getattr(bench, name)).parameters[parameter]
+                self.assertIs(found.kind, inspect.Parameter.KEYWORD_ONLY)
+                self.assertIsNone(found.default)
 
     def test_most_edits(self):
         for holder in (Bench, OrderBench, Bench(PLAIN), OrderBench(PLAIN)):
@@ -116,6 +117,25 @@ class InterfaceTest(ExactCase):
         grown = (1, ((0, 0, 0), (0, 0, 0)), (0, 0))
         expected = [1, 2, 3, 1, 4, 1, 0, ("a", ""), grown, NEVER]
         self.assertEqual(repr(results), repr(expected))
+
+    def test_arguments_by_name_of_both_classes(self):
+        grown = (1, ((0, 0, 0), (0, 0, 0)), (0, 0))
+        linked = (1, ((0, 1, 0), (0, 0, 0)), (0, 0))
+        for kind in (Bench, OrderBench):
+            bench = kind(comp=NEVER)
+            results = [
+                bench.grow(state=0), bench.link(target=1, column="a.", state=0),
+                bench.say(verdict=0, state=1), bench.tells(other="a", one="aa"),
+                bench.comp_at(version=1), bench.comp_at(version=2), bench.drop(state=1),
+                bench.attempt(watch=lambda held: True, edits=[("turn",), ("turn",)]),
+                bench.attempt(edits=()), bench.sorted_by(words=("a", "")),
+                bench.comp_at(version=None), bench.edits()[3:],
+            ]
+            expected = [
+                1, 2, 3, 0, grown, linked, 4, 1, 0, ("a", ""), NEVER,
+                (("drop", 1), ("attempt", (("turn",),))),
+            ]
+            self.assertEqual(repr(results), repr(expected))
 
 
 class MadeTest(BenchCase):
